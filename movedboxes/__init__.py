@@ -1,0 +1,1 @@
+"""Moves among boxes: one world of boxes that go, push, carry and fall."""
