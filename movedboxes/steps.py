@@ -9,11 +9,13 @@ def shift(box, over, under):
     box.down += under
 
 
-def riders_on(boxes, carriers):
-    """The hard boxes that stand on one of these that carries, by numbers."""
+def riders_on(boxes, goers):
+    """The hard boxes that stand on a hard one of these that carries, by numbers."""
+    # One that isn't hard goes by itself: no hard box counts as standing on it, whatever its "carries" says.
+    carriers = [goer for goer in goers if goer.hard == 1 and goer.carries == 1]
     riders = []
     for box in boxes:
-        below = [carrier for carrier in carriers if carrier.carries == 1 and stands_on(box, carrier)]
+        below = [carrier for carrier in carriers if stands_on(box, carrier)]
         if box.hard == 1 and below:
             riders.append(box)
     return riders

@@ -35,7 +35,7 @@ class Model:
         rounds, seen = [sorted(goers)], set(goers)
         while rounds[-1]:
             rounds.append([number for number in self.hard() if number not in seen and any(
-                self.rows[below][6] and self.stands(number, below) for below in rounds[-1])])
+                self.rows[below][4] and self.rows[below][6] and self.stands(number, below) for below in rounds[-1])])
             seen.update(rounds[-1])
         return sum(rounds[1:], [])
 

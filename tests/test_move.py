@@ -104,6 +104,64 @@ class MoveAlone(unittest.TestCase):
         self.assertEqual(last(*calls), [9, 0, 1, 0, 9, 0])
 
 
+WAYS = [(1, 0), (-1, 0), (0, 1), (0, -1)]
+KINDS_NOT_HARD = [(0, 0), (0, 1), (1, 0), (1, 1)]
+
+
+class MoveOfOneNotHard(unittest.TestCase):
+    def check_goes_alone(self, others, way, far=3):
+        """Box 0 isn't hard, 3 wide and 2 high at 0, 0: it goes the whole way, and the others stay."""
+        stay = [(other[1], other[2]) for other in others]
+        for pushed, carries in KINDS_NOT_HARD:
+            calls = [ghost(0, 0, 3, 2, pushed, carries), *others, move(0, far * way[0], far * way[1])]
+            place = (far * way[0], far * way[1])
+            self.assertEqual(last(*calls), [abs(place[0]), abs(place[1]), 1, 0, *place], (pushed, carries, way))
+            self.assertEqual(places(*calls, count=len(calls) - 1), [place] + stay)
+
+    def test_what_is_right_above_it_stays(self):
+        for way in WAYS:
+            self.check_goes_alone([crate(0, -1), wall(1, -1), lift(2, -1), ghost(0, -1, carries=1)], way)
+
+    def test_a_pile_above_it_stays(self):
+        for way in WAYS:
+            self.check_goes_alone([lift(0, -1, 3), lift(0, -2, pushed=1), crate(0, -3)], way)
+
+    def test_what_is_above_does_not_stop_it(self):
+        for way in WAYS:
+            self.check_goes_alone([crate(0, -1, 3), wall(0, -2, 3)], way)
+
+    def test_what_is_all_around_does_not_stop_it(self):
+        around = [wall(-1, -1, 5), wall(-1, 2, 5), wall(-1, 0, 1, 2), crate(3, 0), crate(3, 1), crate(4, 0, 9)]
+        for way in WAYS:
+            self.check_goes_alone(around, way)
+
+    def test_what_is_within_it_stays(self):
+        for way in WAYS:
+            self.check_goes_alone([crate(1, 1), wall(0, 0), ghost(2, 0, pushed=1, carries=1)], way)
+
+    def test_what_it_comes_below_stays(self):
+        # On its way it is right below the crate for a while, with steps still to go.
+        for way in WAYS:
+            self.check_goes_alone([crate(4 * way[0], 2 * way[1] - 1)], way, far=6)
+
+    def test_across_and_then_up(self):
+        for pushed, carries in KINDS_NOT_HARD:
+            calls = [ghost(0, 0, 2, 1, pushed, carries), crate(0, -1), wall(1, -2), move(0, -2, -4), get(1)]
+            self.assertEqual(ask(*calls)[3:], [[2, 4, 1, 0, -2, -4], [0, 0, -1, 1, 1, 1, 1, 0]])
+
+    def test_it_is_still_not_let_beyond(self):
+        for pushed, carries in KINDS_NOT_HARD:
+            calls = [ghost(0, -999, 1, 1, pushed, carries), crate(0, -1000), move(0, 0, -2), get(0)]
+            self.assertEqual(ask(*calls)[2:], [[-5], [0, 0, -999, 1, 1, 0, pushed, carries]])
+            calls = [ghost(0, -999, 1, 1, pushed, carries), crate(0, -1000), move(0, 0, -1)]
+            self.assertEqual(last(*calls), [0, 1, 1, 0, 0, -1000])
+
+    def test_a_hard_one_in_its_stead_takes_along_what_stands_on_it(self):
+        for across, down in WAYS:
+            calls = [lift(0, 0), crate(0, -1), move(0, 2 * across, 2 * down)]
+            self.assertEqual(places(*calls, count=2), [(2 * across, 2 * down), (2 * across, 2 * down - 1)])
+
+
 class MovePushing(unittest.TestCase):
     def test_pushes_each_way(self):
         for across, down in [(1, 0), (-1, 0), (0, 1), (0, -1)]:
@@ -157,10 +215,6 @@ class MoveCarryingAcross(unittest.TestCase):
 
     def test_one_that_is_not_hard_is_not_carried(self):
         self.assertEqual(last(lift(0, 0, 2), ghost(0, -1, pushed=1), move(0, 1, 0)), [1, 0, 1, 0, 1, 0])
-
-    def test_one_that_is_not_hard_carries(self):
-        calls = [ghost(0, 0, carries=1), crate(0, -1), wall(2, 0), move(0, 4, 0)]
-        self.assertEqual(last(*calls), [4, 0, 2, 0, 4, 0, 1, 4, -1])
 
     def test_one_that_can_not_be_pushed_is_carried(self):
         self.assertEqual(last(lift(0, 0), wall(0, -1), move(0, 2, 0)), [2, 0, 2, 0, 2, 0, 1, 2, -1])
@@ -249,10 +303,6 @@ class MoveCarryingDown(unittest.TestCase):
         calls = [crate(0, 0), lift(0, 1, 3, pushed=1), crate(2, 0), move(0, 0, 2)]
         self.assertEqual(last(*calls), [0, 2, 3, 0, 0, 2, 1, 0, 3, 2, 2, 2])
 
-    def test_a_ghost_lift_goes_down_and_what_it_carries_follows(self):
-        calls = [ghost(0, 0, carries=1), crate(0, -1), wall(0, 2), move(0, 0, 3)]
-        self.assertEqual(last(*calls), [0, 3, 2, 0, 0, 3, 1, 0, 1])
-
 
 class MoveUp(unittest.TestCase):
     def test_pushes_up_what_does_not_stand_on_one_that_carries(self):
@@ -282,17 +332,6 @@ class MoveUp(unittest.TestCase):
     def test_what_is_carried_is_stopped_and_stops_all(self):
         calls = [lift(0, 0), crate(0, -1, 3, 1), crate(2, -3), wall(2, -6), crate(0, -2), move(0, 0, -9)]
         self.assertEqual(last(*calls), [0, 3, 4, 0, 0, -3, 1, 0, -4, 2, 2, -5, 4, 0, -5])
-
-    def test_a_ghost_lift_carries_up_and_is_stopped_by_what_it_carries(self):
-        calls = [ghost(0, 0, 2, carries=1), crate(0, -1), wall(1, -2, 1, 3), wall(0, -4), move(0, 0, -9)]
-        self.assertEqual(last(*calls), [0, 2, 2, 0, 0, -2, 1, 0, -3])
-
-    def test_a_ghost_lift_pushes_nothing_itself(self):
-        calls = [ghost(0, 0, 2, carries=1), crate(1, -2), crate(0, -1), wall(1, -4), move(0, 0, -1)]
-        self.assertEqual(last(*calls), [0, 1, 2, 0, 0, -1, 2, 0, -2])
-
-    def test_a_ghost_that_does_not_carry_goes_up_alone(self):
-        self.assertEqual(last(ghost(0, 0), crate(0, -1), move(0, 0, -3)), [0, 3, 1, 0, 0, -3])
 
     def test_what_stands_on_a_carried_ghost_stays(self):
         calls = [lift(0, 0), ghost(0, -1, carries=1), crate(0, -2), move(0, 0, -1)]
