@@ -49,6 +49,16 @@ def has_place_in(box, across, down, wide, high):
     return same_column and same_row
 
 
+def hard_ones(boxes):
+    """Those of the boxes that are hard."""
+    return [box for box in boxes if box.hard == 1]
+
+
+def have_common_place(box, other):
+    """Whether the two boxes have a place in common."""
+    return has_place_in(box, other.across, other.down, other.wide, other.high)
+
+
 def stands_on(upper, lower):
     """Whether the upper box's lowest row is right above the lower one's top row, in a column of both."""
     if upper.down + upper.high != lower.down:
@@ -62,5 +72,5 @@ def in_way(boxes, box, over, under):
         return []
     across = box.across + over
     down = box.down + under
-    others = [other for other in boxes if other.hard == 1 and other.number != box.number]
+    others = [other for other in hard_ones(boxes) if other.number != box.number]
     return [other for other in others if has_place_in(other, across, down, box.wide, box.high)]

@@ -1,6 +1,6 @@
 """How boxes go: one step, a move and a fall. Each changes the boxes that it is handed."""
 
-from movedboxes.boxes import in_way, numbers_of, stands_on
+from movedboxes.boxes import hard_ones, in_way, numbers_of, stands_on
 
 
 def shift(box, over, under):
@@ -12,11 +12,10 @@ def shift(box, over, under):
 def riders_on(boxes, goers):
     """The hard boxes that stand on a hard one of these that carries, by numbers."""
     # One that isn't hard goes by itself: no hard box counts as standing on it, whatever its "carries" says.
-    carriers = [goer for goer in goers if goer.hard == 1 and goer.carries == 1]
+    carriers = [goer for goer in hard_ones(goers) if goer.carries == 1]
     riders = []
-    for box in boxes:
-        below = [carrier for carrier in carriers if stands_on(box, carrier)]
-        if box.hard == 1 and below:
+    for box in hard_ones(boxes):
+        if any([stands_on(box, carrier) for carrier in carriers]):
             riders.append(box)
     return riders
 
@@ -91,7 +90,7 @@ def fall_order(box):
 def fall_all(boxes, most):
     """Let all fall at most so many places; of each that fell, in their order, its number and how far."""
     fell = []
-    fallers = [box for box in boxes if box.hard == 1 and box.pushed == 1]
+    fallers = [box for box in hard_ones(boxes) if box.pushed == 1]
     for box in sorted(fallers, key=fall_order):
         far = 0
         while far < most and not in_way(boxes, box, 0, 1):

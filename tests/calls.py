@@ -43,6 +43,26 @@ def within(across, down, wide=1, high=1):
     return [5, across, down, wide, high]
 
 
+def ray(across, down, over, under, most=300):
+    return [6, across, down, over, under, most]
+
+
+def overs():
+    return [7]
+
+
+def on(number):
+    return [8, number]
+
+
+def free(number, across, down):
+    return [9, number, across, down]
+
+
+def boxes():
+    return [10]
+
+
 def parted(given):
     parts = []
     at = 0

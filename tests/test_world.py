@@ -7,10 +7,14 @@ import unittest
 
 import movedboxes.world
 from movedboxes.world import answers
-from tests.calls import ask, box, crate, fall, get, ghost, gone, lift, move, parted, within
+from tests.calls import ask, box, boxes, crate, fall, free, get, ghost, gone, lift, move, on, overs, parted, ray, within
 
+# All eleven kinds, forty calls.
 STORY = [lift(0, 0, 3), crate(1, -1), ghost(2, -1), move(0, 2, -1), crate(0, 0), fall(4), get(1), within(0, 0, 9, 9),
-         move(9, 1, 1), box(0, 0, 51), gone(2), gone(2)]
+         move(9, 1, 1), box(0, 0, 51), on(0), on(1), on(2), on(9), overs(), boxes(), ray(0, -2, 1, 0, 3),
+         ray(0, -2, 1, 0, 2), ray(0, -2, 0, 0, 2), ray(9, 9, -1, -1, 300), free(3, 3, -2), free(3, 0, 0),
+         free(9, 1001, 0), free(0, 1001, 0), free(0, 1, -2), gone(2), gone(2), overs(), boxes(), ghost(3, -2, 2, 2),
+         overs(), boxes(), move(0, -3, 2), get(4), overs(), on(0), within(-9, -9, 20, 20), gone(0), fall(9), boxes()]
 
 
 def joined(calls):
@@ -30,7 +34,21 @@ class Interface(unittest.TestCase):
     def test_a_story(self):
         self.assertEqual(ask(*STORY), [
             [0], [1], [2], [2, 1, 2, 0, 2, -1, 1, 3, -2], [3], [1, 3, 4], [0, 3, -2, 1, 1, 1, 1, 0], [1, 3],
-            [-2], [-1], [3], [-2]])
+            [-2], [-1], [0, 1, 1], [1, 0, 0], [0, 0], [-2], [1, 0, 2], [4, 0, 1, 2, 3], [2, 1, 1],
+            [-6], [-1], [-6], [1, 1], [0],
+            [-2], [-1], [1, 1], [3], [-2], [0], [3, 0, 1, 3], [4],
+            [2, 0, 4, 1, 4], [4, 0, 1, 3, 4], [3, 2, 2, 0, -1, 1, 1, 0, 0], [0, 3, -2, 2, 2, 0, 0, 0], [0], [0, 1, 1],
+            [4, 0, 1, 3, 4], [3], [2, 3, 9, 1, 9], [3, 1, 3, 4]])
+        self.assertEqual({call[0] for call in STORY}, set(range(11)))
+        self.assertEqual(len(STORY), 40)
+
+    def test_calls_without_numbers_stand_alone(self):
+        self.assertEqual(answers([7]), [1, 0])
+        self.assertEqual(answers([10]), [1, 0])
+        self.assertEqual(answers([10, 7, 10, 8, 0, 7, 0, 3, -4, 2, 1, 1, 0, 1, 10, 7]),
+                         [1, 0, 1, 0, 1, 0, 1, -2, 1, 0, 1, 0, 2, 1, 0, 1, 0])
+        self.assertEqual(answers([0, 3, -4, 2, 1, 1, 0, 1, 8, 0, 6, 0, -4, 1, 0, 3, 9, 0, 4, -4, 10]),
+                         [1, 0, 2, 0, 0, 3, 2, 1, 0, 1, 0, 2, 1, 0])
 
     def test_forty_calls(self):
         given = ask(*[crate(2 * number, 0) for number in range(40)])
